@@ -56,7 +56,7 @@ func leavesCalls(list []impl.Leaf) []impl.LeavesResult {
 			answers = append(answers, impl.PutRow(list, r))
 		}
 	}
-	return answers
+	return append(answers, packCalls(list)...)
 }
 
 func rowsCalls(list []impl.Leaf) []impl.RowsResult {
@@ -68,7 +68,7 @@ func rowsCalls(list []impl.Leaf) []impl.RowsResult {
 }
 
 func intCalls(list []impl.Leaf) []impl.IntResult {
-	answers := []impl.IntResult{{Code: impl.LeavesFault(list)}}
+	answers := []impl.IntResult{{Code: impl.LeavesFault(list)}, impl.FillOf(list)}
 	for _, key := range []int64{-1, 0, 1, 20, 50, 99, 100} {
 		answers = append(answers, impl.LeafFor(list, key))
 	}
