@@ -217,14 +217,10 @@ func TestAskAndFreeOfSomeLocks(t *testing.T) {
 
 // TestLocksComeAndGo follows a lock table through asks and ends of a plain rule's making, with few transactions and with more than hold a lock at once.
 func TestLocksComeAndGo(t *testing.T) {
-	state := uint32(11)
-	next := func(bound uint32) int64 {
-		state = state*1664525 + 1013904223
-		return int64((state >> 8) % bound)
-	}
+	next := numbersFrom(11)
 	codes := map[int64]int{}
 	waited, admitted := 0, 0
-	for _, c := range []struct{ txns, resources, frees, strong uint32 }{
+	for _, c := range []struct{ txns, resources, frees, strong int64 }{
 		{4, 3, 4, 2}, {10, 5, 5, 3}, {60, 1, 40, 30}, {70, 2, 40, 12}, {50, 101, 20, 2}, {999, 101, 9, 4},
 	} {
 		var list []impl.Lock
