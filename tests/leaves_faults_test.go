@@ -40,6 +40,7 @@ func checkLeavesFault(t *testing.T, name string, list []impl.Leaf, want int64) {
 	}
 	checkPackFault(t, name, list, want)
 	checkUndoFault(t, name, list, want)
+	checkIndexOfFault(t, name, list, want)
 }
 
 func TestLeavesFault(t *testing.T) {
