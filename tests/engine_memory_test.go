@@ -48,22 +48,7 @@ func oddEngines() []impl.Engine {
 
 func TestEnginesStayAndAnswersRepeat(t *testing.T) {
 	for _, odd := range oddEngines() {
-		e := roomyCopy(odd)
-		before := wholeCopy(e)
-		first := engineCalls(e)
-		for range 3 {
-			if !reflect.DeepEqual(engineCalls(e), first) {
-				t.Fatalf("another answer at another call, of %v", odd)
-			}
-		}
-		if !reflect.DeepEqual(wholeCopy(e), before) {
-			t.Fatalf("an engine is changed: %v", odd)
-		}
-		for _, other := range []impl.Engine{bareOf(odd), emptyOf(odd)} {
-			if !same(engineCalls(other), first) {
-				t.Fatalf("another answer where lists are nil or empty, of %v", odd)
-			}
-		}
+		checkStays(t, odd, engineCalls)
 	}
 }
 
@@ -75,33 +60,9 @@ func TestAnswersOfEnginesAreNewMemory(t *testing.T) {
 	}
 }
 
-// TestAnswersStayWhenTheEngineTurns marks all numbers of an engine, and then those of an answer.
 func TestAnswersStayWhenTheEngineTurns(t *testing.T) {
 	for _, some := range someEngines() {
-		e := roomyCopy(some)
-		first, second := engineCalls(e), engineCalls(e)
-		want := bareOf(first)
-		markReach(reflect.ValueOf(e))
-		markReach(reflect.ValueOf(second))
-		if !same(first, want) {
-			t.Fatalf("an answer turned with its engine or with another one: %v", some)
-		}
-	}
-}
-
-// markReach marks all that is within reach of a value's lists.
-func markReach(v reflect.Value) {
-	switch v.Kind() {
-	case reflect.Slice:
-		whole := v.Slice(0, v.Cap())
-		for i := range whole.Len() {
-			markReach(whole.Index(i))
-			markAll(whole.Index(i))
-		}
-	case reflect.Struct:
-		for i := range v.NumField() {
-			markReach(v.Field(i))
-		}
+		checkKept(t, some, engineCalls)
 	}
 }
 

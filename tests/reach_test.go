@@ -124,6 +124,56 @@ func checkApart(t *testing.T, name string, answer any, others ...any) {
 	}
 }
 
+// checkStays asks that calls change nothing within reach of what they are given, answer the same at each call, and where its lists are nil or empty.
+func checkStays[T, A any](t *testing.T, odd T, calls func(T) A) {
+	t.Helper()
+	given := roomyCopy(odd)
+	before := wholeCopy(given)
+	first := calls(given)
+	for range 3 {
+		if !reflect.DeepEqual(calls(given), first) {
+			t.Fatalf("another answer at another call, of %v", odd)
+		}
+	}
+	if !reflect.DeepEqual(wholeCopy(given), before) {
+		t.Fatalf("what is given is changed: %v", odd)
+	}
+	for _, other := range []T{bareOf(odd), emptyOf(odd)} {
+		if !same(calls(other), first) {
+			t.Fatalf("another answer where lists are nil or empty, of %v", odd)
+		}
+	}
+}
+
+// checkKept asks that an answer stays when all that was given is marked, and another answer to the same.
+func checkKept[T, A any](t *testing.T, some T, calls func(T) A) {
+	t.Helper()
+	given := roomyCopy(some)
+	first, second := calls(given), calls(given)
+	want := bareOf(first)
+	markReach(reflect.ValueOf(given))
+	markReach(reflect.ValueOf(second))
+	if !same(first, want) {
+		t.Fatalf("an answer turned with what was given or with another one: %v", some)
+	}
+}
+
+// markReach marks all that is within reach of a value's lists.
+func markReach(v reflect.Value) {
+	switch v.Kind() {
+	case reflect.Slice:
+		whole := v.Slice(0, v.Cap())
+		for i := range whole.Len() {
+			markReach(whole.Index(i))
+			markAll(whole.Index(i))
+		}
+	case reflect.Struct:
+		for i := range v.NumField() {
+			markReach(v.Field(i))
+		}
+	}
+}
+
 // TestSharedMemoryIsSeen asks the helpers themselves: what would pass everything is no test.
 func TestSharedMemoryIsSeen(t *testing.T) {
 	type pairOfLists struct{ A, B []int64 }
