@@ -273,13 +273,16 @@ func manyRows(count int64) []impl.Row {
 	return rows
 }
 
-func TestMapOfRowsFaults(t *testing.T) {
+// rowsCase is a list of rows, and the code that MapOfRows has for it.
+type rowsCase struct {
+	name string
+	rows []impl.Row
+	want int64
+}
+
+func rowsCases() []rowsCase {
 	odd := impl.Row{Key: 50, Value: 1, Ghost: true}
-	for _, c := range []struct {
-		name string
-		rows []impl.Row
-		want int64
-	}{
+	return []rowsCase{
 		{"241", manyRows(241), impl.ErrMany},
 		{"far too many", make([]impl.Row, 100000), impl.ErrMany},
 		{"241, the first one out of bounds", append([]impl.Row{row(-1, 0)}, manyRows(240)...), impl.ErrMany},
@@ -307,7 +310,11 @@ func TestMapOfRowsFaults(t *testing.T) {
 		{"keys that fall, then a wrong value", []impl.Row{row(5, 1), row(4, 2), row(6, 10000)}, impl.ErrRange},
 		{"a key twice, then a wrong key", []impl.Row{row(5, 1), row(5, 1), row(-1, 0)}, impl.ErrRange},
 		{"keys alike, and a wrong key at the end of 240", append(make([]impl.Row, 239), row(100, 0)), impl.ErrRange},
-	} {
+	}
+}
+
+func TestMapOfRowsFaults(t *testing.T) {
+	for _, c := range rowsCases() {
 		got := impl.MapOfRows(c.rows)
 		if got.Code != c.want || c.want != impl.OK && !reflect.DeepEqual(got, impl.RowsResult{Code: c.want}) {
 			t.Errorf("MapOfRows, %s: %v, want the code %d", c.name, got, c.want)
