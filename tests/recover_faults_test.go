@@ -132,9 +132,9 @@ func TestRecsOutOfBounds(t *testing.T) {
 	}
 }
 
-// TestRedoRowsCodesOfBase: behind those of the records come those of MapOfRows, then that of ghosts.
-func TestRedoRowsCodesOfBase(t *testing.T) {
-	cases := append(rowsCases(),
+// basesCases has those of MapOfRows, and ghosts, which come behind all these.
+func basesCases() []rowsCase {
+	return append(rowsCases(),
 		rowsCase{"a ghost alone", []impl.Row{ghost(5)}, impl.ErrForm},
 		rowsCase{"a ghost ahead of others", []impl.Row{ghost(0), row(5, 5)}, impl.ErrForm},
 		rowsCase{"a ghost behind others", []impl.Row{row(5, 5), ghost(99)}, impl.ErrForm},
@@ -143,9 +143,14 @@ func TestRedoRowsCodesOfBase(t *testing.T) {
 		rowsCase{"a ghost, then a value out of bounds", []impl.Row{ghost(5), row(6, -1)}, impl.ErrRange},
 		rowsCase{"241 with a ghost", append([]impl.Row{ghost(0)}, manyRows(240)...), impl.ErrMany},
 		rowsCase{"no rows", nil, impl.OK},
+		rowsCase{"one row", []impl.Row{row(99, 9999)}, impl.OK},
 	)
+}
+
+// TestRedoRowsCodesOfBase: behind those of the records come those of MapOfRows, then that of ghosts.
+func TestRedoRowsCodesOfBase(t *testing.T) {
 	lists := []string{"", "begin 1", "begin 1; set 1 5 50 7; commit 1", "begin 1; set 1 5 - 7; back 1 5 7 -", "set 1 5 - -"}
-	for _, c := range cases {
+	for _, c := range basesCases() {
 		if code := wantedBaseCode(c.rows); code != c.want {
 			t.Fatalf("what is leant on elsewhere tells %d, %s, want %d", code, c.name, c.want)
 		}
