@@ -11,6 +11,11 @@ func remade(v reflect.Value, shape func(list reflect.Value) (from, to reflect.Va
 	switch v.Kind() {
 	case reflect.Slice:
 		from, to := shape(v)
+		if hasNoLists(v.Type().Elem()) {
+			reflect.Copy(to, from)
+			made.Set(to)
+			break
+		}
 		for i := range from.Len() {
 			to.Index(i).Set(remade(from.Index(i), shape))
 		}
@@ -23,6 +28,22 @@ func remade(v reflect.Value, shape func(list reflect.Value) (from, to reflect.Va
 		made.Set(v)
 	}
 	return made
+}
+
+// hasNoLists asks whether values of a type can be copied as they are, which is much faster.
+func hasNoLists(of reflect.Type) bool {
+	switch of.Kind() {
+	case reflect.Struct:
+		for i := range of.NumField() {
+			if !hasNoLists(of.Field(i).Type) {
+				return false
+			}
+		}
+		return true
+	case reflect.Slice, reflect.Interface:
+		return false
+	}
+	return true
 }
 
 func remadeAs[T any](v T, shape func(list reflect.Value) (from, to reflect.Value)) T {
